@@ -1,0 +1,74 @@
+"""Lots of moduli, and the integers that leave 0 or 1 by each of them."""
+
+from math import gcd
+
+from batchnumbers.basics import is_integer, number_leaving, product_of
+from batchnumbers.errors import InvalidQuestion
+
+
+def is_lot(value):
+    """Whether a value is an ascending tuple of integers from 3 on, no two with a common divisor but 1."""
+    if not isinstance(value, tuple):
+        return False
+    whole = 1
+    least = 3
+    for modulus in value:
+        if not is_integer(modulus) or modulus < least or gcd(modulus, whole) > 1:
+            return False
+        whole *= modulus
+        least = modulus + 1
+    return True
+
+
+def fits_lot(lot, count):
+    """Whether the count fits what is surely a lot."""
+    return all([count % modulus < 2 for modulus in lot])
+
+
+def fits(lot, count):
+    """Whether the count leaves 0 or 1 when divided by each modulus."""
+    _check_lot(lot)
+    return fits_lot(lot, count)
+
+
+def residues(lot):
+    """The numbers below the product of the moduli that fit."""
+    _check_lot(lot)
+    whole = product_of(lot)
+    rests = [0]
+    for modulus in lot:
+        # Whoever leaves 0 by this modulus so far leaves 1 with the step added, and the same by the others.
+        step = number_leaving(modulus, whole // modulus)
+        rests = rests + [(rest + step) % whole for rest in rests]
+    return tuple(sorted(rests))
+
+
+def next_fitting(lot, count):
+    """The least integer from the count on that fits."""
+    rests = residues(lot)
+    whole = product_of(lot)
+    start = count - count % whole
+    for rest in rests:
+        if start + rest >= count:
+            return start + rest
+    return start + whole
+
+
+def fitting_between(lot, low, high):
+    """How many integers from `low` on, but less than `high`, fit."""
+    rests = residues(lot)
+    if low >= high:
+        return 0
+    whole = product_of(lot)
+    return _fitting_below(rests, whole, high) - _fitting_below(rests, whole, low)
+
+
+def _fitting_below(rests, whole, bound):
+    """How many integers from 0 on, but less than the bound, fit; below 0 minus how many from the bound on."""
+    rounds, left = divmod(bound, whole)
+    return rounds * len(rests) + len([rest for rest in rests if rest < left])
+
+
+def _check_lot(value):
+    if not is_lot(value):
+        raise InvalidQuestion(0)

@@ -1,0 +1,68 @@
+"""The interface: names, arguments, in which file each is defined, and that the files keep to their limits."""
+
+import ast
+import inspect
+import os
+import unittest
+from importlib import import_module
+
+import batchnumbers
+
+FOLDER = os.path.dirname(batchnumbers.__file__)
+ERRORS = ["BatchError", "InvalidMachine", "InvalidRow", "InvalidChange", "InvalidQuestion", "InvalidText", "Refused",
+          "InvalidCommand"]
+INTERFACE = {
+    "machines": ["Machine(commands, steps)", "checked_row(machine, value)"],
+    "changes": ["checked_change(states, value)", "followed(one, other)", "back(change)", "power(change, count)",
+                "order(change)", "change_of(machine, row)", "changes(machine)", "row_for(machine, change)",
+                "orders(machine)", "change_places(one, other)", "middle(machine)", "never_matters(machine)",
+                "loop(one, other, count)", "split_loop(one, other, count)"],
+    "texts": ["machine_text(machine)", "read_machine(text)"],
+    "rests": ["is_lot(value)", "fits(lot, count)", "residues(lot)", "next_fitting(lot, count)",
+              "fitting_between(lot, low, high)"],
+}
+
+
+def files():
+    return sorted(name for name in os.listdir(FOLDER) if name != "__pycache__")
+
+
+def text_of(name):
+    with open(os.path.join(FOLDER, name), encoding="ascii", newline="") as file:
+        return file.read()
+
+
+class InterfaceTest(unittest.TestCase):
+
+    def test_each_name_is_defined_in_its_file_with_its_arguments(self):
+        for name, signatures in INTERFACE.items():
+            module = import_module("batchnumbers." + name)
+            for signature in signatures:
+                told = getattr(module, signature.partition("(")[0])
+                self.assertEqual(told.__name__ + str(inspect.signature(told)), signature)
+                self.assertEqual(told.__module__, module.__name__)
+
+    def test_the_errors(self):
+        module = import_module("batchnumbers.errors")
+        for name in ERRORS:
+            self.assertEqual(getattr(module, name).__module__, "batchnumbers.errors")
+
+    def test_the_limits_of_files_lines_and_functions(self):
+        for name in files():
+            text = text_of(name)
+            self.assertTrue(name.endswith(".py"), name)
+            self.assertLessEqual(len(text.split("\n")), 399, name)
+            for line in text.split("\n"):
+                self.assertLessEqual(len(line), 120, name)
+                self.assertTrue(all(" " <= sign <= "~" for sign in line), name)
+            for node in ast.walk(ast.parse(text)):
+                if isinstance(node, ast.FunctionDef):
+                    self.assertLessEqual(node.end_lineno - node.lineno + 1, 40, name + " " + node.name)
+
+    def test_imports_are_of_the_package_and_of_math(self):
+        for name in files():
+            for node in ast.walk(ast.parse(text_of(name))):
+                self.assertNotIsInstance(node, ast.Import)
+                if isinstance(node, ast.ImportFrom):
+                    self.assertTrue(node.module == "math" or node.module.startswith("batchnumbers."), name)
+                    self.assertEqual(node.level, 0)

@@ -154,15 +154,25 @@ def reached(states, makers):
     return rows
 
 
-def few_makers(states, group):
-    """Some few of the changes of which, one after another, all the others are made."""
+def grown(states, group):
+    """Some few of the changes of which all the others are made, and all that is made of them, to look it up."""
     few = []
     made = reached(states, few)
     for change in group:
         if change not in made:
             few.append(change)
             made = reached(states, few)
-    return few
+    return few, made
+
+
+def few_makers(states, group):
+    """Some few of the changes of which, one after another, all the others are made."""
+    return grown(states, group)[0]
+
+
+def spanned(states, group):
+    """The changes that are made of those of the group, ascending."""
+    return tuple(sorted(grown(states, group)[1]))
 
 
 def command_changes(machine):

@@ -74,16 +74,19 @@ EVEN5 = of_changes(of_cycles(5, (0, 1, 2, 3, 4)), of_cycles(5, (0, 1, 2)))
 TWENTY = of_changes(of_cycles(5, (0, 1, 2, 3, 4)), of_cycles(5, (1, 2, 4, 3)))
 TWENTY_ONE = of_changes(of_cycles(7, (0, 1, 2, 3, 4, 5, 6)), of_cycles(7, (1, 2, 4), (3, 6, 5)))
 THREES = of_changes(of_cycles(9, (0, 3, 6), (1, 4, 7), (2, 5, 8)), of_cycles(9, (3, 4, 5), (6, 8, 7)))
+SHIFTED = of_changes(of_cycles(6, (1, 3, 5)), of_cycles(6, (3, 5)))
 SQUARE_PAIR = beside(SQUARE, PAIR)
 SQUARE_NINE = beside(SQUARE, THREES)
+SQUARE_TWENTY_ONE = beside(SQUARE, TWENTY_ONE)
+THREES_FIVES = beside(THREES, FIVES)
 TURNS_FIVES = beside(TURNS, FIVES)
 EXACTLY_400 = beside(TWENTY, TWENTY)
 OVER_400 = of_changes(of_cycles(6, (0, 1, 2, 3, 4, 5)), of_cycles(6, (0, 1)))
 HUGE = of_changes(of_cycles(16, tuple(range(16))), of_cycles(16, (0, 1)))
 
 SMALL = [TRIVIAL, STILL, PAIR, TURNS, SQUARE, TWO, RING4, RING6, KLEIN, CUBE8, QUATERNION, FIVES, EIGHTS, EVEN4,
-         ALL4, TWENTY, TWENTY_ONE, THREES, SQUARE_PAIR]
-LARGE = [EVEN5, SQUARE_NINE, TURNS_FIVES]
+         ALL4, TWENTY, TWENTY_ONE, THREES, SHIFTED, SQUARE_PAIR]
+LARGE = [EVEN5, SQUARE_NINE, SQUARE_TWENTY_ONE, THREES_FIVES, TURNS_FIVES]
 
 
 def then(one, other):

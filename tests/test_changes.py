@@ -79,6 +79,13 @@ class ChangesTest(unittest.TestCase):
             # Refused ahead of the change that is none.
             self.assertEqual(error_of(row_for, machine, None), REFUSED)
 
+    def test_just_one_more_than_400(self):
+        ring = of_changes(of_cycles(400, tuple(range(400))))
+        self.assertEqual(len(changes(ring)), 400)
+        self.assertEqual(orders(ring), 400)
+        ring = of_changes(of_cycles(401, tuple(range(401))))
+        self.assertEqual(error_of(changes, ring), REFUSED)
+
     def test_many_changes_do_not_bar_what_needs_none_of_them(self):
         self.assertIs(never_matters(HUGE), False)
         self.assertEqual(change_of(HUGE, (1,))[:3], (1, 0, 2))

@@ -1,5 +1,9 @@
 """What several modules need: kinds of values, and a little about divisors."""
 
+from math import gcd
+
+from batchnumbers.errors import InvalidQuestion
+
 
 def is_integer(value):
     """Whether a value is an integer."""
@@ -25,6 +29,18 @@ def is_tuple_of(value, many):
 def is_ascending(values):
     """Whether each of the values is less than the next one."""
     return all([values[at] < values[at + 1] for at in range(len(values) - 1)])
+
+
+def check_integer(value, at):
+    """Refuses what is no integer, an argument with this index."""
+    if not is_integer(value):
+        raise InvalidQuestion(at)
+
+
+def check_integers(value, at):
+    """Refuses what is no sequence of integers, an argument with this index."""
+    if not is_sequence(value) or not all([is_integer(entry) for entry in value]):
+        raise InvalidQuestion(at)
 
 
 def product_of(numbers):
@@ -66,3 +82,14 @@ def prime_powers(number):
             found.append((prime, power))
         prime += 1
     return found
+
+
+def shared_part(number, other):
+    """The greatest divisor of the number, from 1 on, that has no primes as divisors but those of the other."""
+    part = 1
+    common = gcd(number, other)
+    while common > 1:
+        part *= common
+        number //= common
+        common = gcd(number, common)
+    return part

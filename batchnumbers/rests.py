@@ -20,6 +20,12 @@ def is_lot(value):
     return True
 
 
+def check_lot(value, at):
+    """Refuses what is no lot of moduli, an argument with this index."""
+    if not is_lot(value):
+        raise InvalidQuestion(at)
+
+
 def fits_lot(lot, count):
     """Whether the count fits what is surely a lot."""
     return all([count % modulus < 2 for modulus in lot])
@@ -27,13 +33,13 @@ def fits_lot(lot, count):
 
 def fits(lot, count):
     """Whether the count leaves 0 or 1 when divided by each modulus."""
-    _check_lot(lot)
+    check_lot(lot, 0)
     return fits_lot(lot, count)
 
 
 def residues(lot):
     """The numbers below the product of the moduli that fit."""
-    _check_lot(lot)
+    check_lot(lot, 0)
     whole = product_of(lot)
     rests = [0]
     for modulus in lot:
@@ -67,8 +73,3 @@ def _fitting_below(rests, whole, bound):
     """How many integers from 0 on, but less than the bound, fit; below 0 minus how many from the bound on."""
     rounds, left = divmod(bound, whole)
     return rounds * len(rests) + len([rest for rest in rests if rest < left])
-
-
-def _check_lot(value):
-    if not is_lot(value):
-        raise InvalidQuestion(0)

@@ -1,23 +1,23 @@
 """Powers with one count, and changes as a power with a batch number and a power with the count before it."""
 
-from batchnumbers.basics import is_integer
+from batchnumbers.basics import check_integer
 from batchnumbers.batches import is_batch_number
 from batchnumbers.changes import all_commute, changes, checked_known, composed, few_makers, raised, undone
-from batchnumbers.errors import InvalidQuestion, Refused
+from batchnumbers.errors import Refused
 
 
 def powers(machine, count):
     """The powers with this count of all changes of the machine."""
     group = changes(machine)
-    _check_count(count, 1)
+    check_integer(count, 1)
     return tuple(_powers_of(group, count))
 
 
 def go_along(machine, one, other):
     """Whether each power with the one count changes places with each power with the other."""
     group = changes(machine)
-    _check_count(one, 1)
-    _check_count(other, 2)
+    check_integer(one, 1)
+    check_integer(other, 2)
     # What changes places with some changes does so with all that are made of them.
     first = few_makers(machine.states, _powers_of(group, one))
     second = few_makers(machine.states, _powers_of(group, other))
@@ -52,15 +52,10 @@ def _powers_of(group, count):
     return sorted(set([raised(change, count) for change in group]))
 
 
-def _check_count(value, at):
-    if not is_integer(value):
-        raise InvalidQuestion(at)
-
-
 def _splitting_group(machine, count):
     """The changes of the machine; the count, any value, must be a batch number."""
     group = changes(machine)
-    _check_count(count, 1)
+    check_integer(count, 1)
     if not is_batch_number(machine, count):
         raise Refused(1)
     return group

@@ -3,9 +3,9 @@
 import math
 import unittest
 
-from batchnumbers.basics import (inverse, is_ascending, is_below, is_integer, is_sequence, is_tuple_of, number_leaving,
-                                 prime_powers, product_of)
-from tests.helpers import BIG, oddities
+from batchnumbers.basics import (check_integer, check_integers, inverse, is_ascending, is_below, is_integer, is_sequence,
+                                 is_tuple_of, number_leaving, prime_powers, product_of, shared_part)
+from tests.helpers import BIG, error_of, oddities
 
 
 class KindsTest(unittest.TestCase):
@@ -32,8 +32,28 @@ class KindsTest(unittest.TestCase):
         for value, told in [((), True), ((5,), True), ((1, 2, 4), True), ((1, 1), False), ((1, 3, 2), False)]:
             self.assertIs(is_ascending(value), told)
 
+    def test_checks(self):
+        for value in [0, -1, BIG]:
+            self.assertIsNone(check_integer(value, 1))
+            self.assertEqual(error_of(check_integers, value, 3), ("InvalidQuestion", 3))
+            self.assertIsNone(check_integers([value, value], 1))
+            self.assertIsNone(check_integers((value,), 1))
+        self.assertIsNone(check_integers((), 0))
+        for value in oddities() + [()]:
+            self.assertEqual(error_of(check_integer, value, 2), ("InvalidQuestion", 2))
+            self.assertEqual(error_of(check_integers, [1, value], 0), ("InvalidQuestion", 0))
+
 
 class DivisorsTest(unittest.TestCase):
+
+    def test_shared_part(self):
+        for number in range(1, 80):
+            for other in range(1, 80):
+                told = shared_part(number, other)
+                fitting = [part for part in range(1, number + 1) if number % part == 0
+                           and all(other % prime == 0 for prime, _ in prime_powers(part))]
+                self.assertEqual(told, max(fitting))
+        self.assertEqual(shared_part(2 ** 90 * 3 ** 5, 10), 2 ** 90)
 
     def test_prime_powers(self):
         self.assertEqual(prime_powers(1), [])

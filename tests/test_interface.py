@@ -32,6 +32,13 @@ INTERFACE = {
     "knotted": ["division(machine, part)", "knots(machine)", "is_knots(machine, value)", "merged(numbers)"],
     "rests": ["is_lot(value)", "fits(lot, count)", "residues(lot)", "next_fitting(lot, count)",
               "fitting_between(lot, low, high)"],
+    "pieces": ["pieces(machine)", "rest_piece(machine)", "by_pieces(machine, change)"],
+    "following": ["lot_of(counts)", "follows(counts, count)", "doubt(counts, count)", "is_doubt(counts, count, value)"],
+    "forcing": ["forces(counts)", "least_forcing(counts)", "is_least_forcing(counts, value)"],
+    "lots": ["is_coarser(one, other)", "common_lot(one, other)", "telling_counts(lot)"],
+    "shelves": ["is_shelving(value)", "shelf_machine(shelving)"],
+    "walks": ["walk_sum(shelving, shelf, jump, count)", "jump_fault(shelving, count)",
+              "is_jump_fault(shelving, count, value)"],
 }
 
 

@@ -2,10 +2,11 @@
 
 from math import lcm
 
-from batchnumbers.basics import is_below, is_tuple_of, number_leaving, prime_powers, product_of
+from batchnumbers.basics import is_below, is_tuple_of
 from batchnumbers.changes import (change_of_row, changes, command_changes, common_order, commute_with_all, composed,
-                                  looped, raised, rows_by_change, split_looped)
+                                  first_unlike, looped, raised, rows_by_change, split_looped)
 from batchnumbers.machines import is_row
+from batchnumbers.rests import lot_with
 
 
 def first_fault(group, makers, count):
@@ -38,10 +39,7 @@ def batch_fault(machine, count):
     change, command = fault
     together = looped(change, makers[command], count)
     apart = split_looped(change, makers[command], count)
-    state = 0
-    while together[state] == apart[state]:
-        state += 1
-    return rows[change], (command,), state
+    return rows[change], (command,), first_unlike(together, apart)
 
 
 def is_batch_fault(machine, count, value):
@@ -56,7 +54,7 @@ def is_batch_fault(machine, count, value):
 
 
 def rounds_of(group, makers):
-    """The least count from 1 on for which all powers of the group lie in its middle."""
+    """The least count from 1 on for which all powers of the group change places with the makers."""
     inner = {change: True for change in group if commute_with_all(change, makers)}
     rounds = 1
     for change in group:
@@ -90,34 +88,4 @@ def moduli(machine):
     """The lot of moduli whose fitting integers are just the batch numbers of the machine."""
     group = changes(machine)
     makers = command_changes(machine)
-    blocks = [power for _, power in prime_powers(number_of(group, makers))]
-    splitting = _splitting_masks(group, makers, blocks)
-    lot = {}
-    for at in range(len(blocks)):
-        lot[_modulus_around(at, blocks, splitting)] = True
-    return tuple(sorted(lot))
-
-
-def _chosen(blocks, mask):
-    """The blocks whose bits are set in the mask."""
-    return [block for at, block in enumerate(blocks) if mask >> at & 1]
-
-
-def _splitting_masks(group, makers, blocks):
-    """The masks of blocks such that what leaves 1 by these blocks and 0 by the others splits all loops."""
-    whole = product_of(blocks)
-    masks = []
-    for mask in range(1 << len(blocks)):
-        ones = product_of(_chosen(blocks, mask))
-        if first_fault(group, makers, number_leaving(ones, whole // ones)) is None:
-            masks.append(mask)
-    return masks
-
-
-def _modulus_around(at, blocks, splitting):
-    """The product of those blocks by which no batch number leaves something else than by this one."""
-    beside = -1
-    for mask in splitting:
-        if mask >> at & 1:
-            beside &= mask
-    return product_of(_chosen(blocks, beside))
+    return lot_with(number_of(group, makers), lambda count: first_fault(group, makers, count) is None)

@@ -53,6 +53,22 @@ def composed(one, other):
     return tuple([other[state] for state in one])
 
 
+def in_turn(states, steps):
+    """All the changes, one after another."""
+    change = idle_change(states)
+    for step in steps:
+        change = composed(change, step)
+    return change
+
+
+def first_unlike(one, other):
+    """The first state that two unlike changes lead to unlike states."""
+    state = 0
+    while one[state] == other[state]:
+        state += 1
+    return state
+
+
 def undone(change):
     """What undoes the change."""
     out = [0] * len(change)

@@ -1,6 +1,6 @@
 """Machines that lose nothing, and rows of their commands."""
 
-from batchnumbers.basics import is_below, is_integer, is_sequence
+from batchnumbers.basics import is_below, is_integer, is_sequence, is_tuple_of
 from batchnumbers.errors import InvalidMachine, InvalidRow
 
 
@@ -55,3 +55,18 @@ def checked_row(machine, value):
 def is_row(machine, value):
     """Whether a value is a row of the machine."""
     return isinstance(value, tuple) and all([is_below(command, machine.commands) for command in value])
+
+
+def is_rows_with_state(machine, many, value):
+    """Whether a value is a pair of a tuple of so many rows and a state."""
+    if not is_tuple_of(value, 2) or not is_tuple_of(value[0], many):
+        return False
+    return all([is_row(machine, row) for row in value[0]]) and is_below(value[1], machine.states)
+
+
+def rows_among(many, told):
+    """So many rows: those of the pairs (number, row) that are told, all others empty."""
+    rows = [()] * many
+    for number, row in told:
+        rows[number] = row
+    return tuple(rows)

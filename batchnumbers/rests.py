@@ -2,7 +2,7 @@
 
 from math import gcd
 
-from batchnumbers.basics import is_integer, number_leaving, product_of
+from batchnumbers.basics import is_integer, number_leaving, prime_powers, product_of
 from batchnumbers.errors import InvalidQuestion
 
 
@@ -73,3 +73,37 @@ def _fitting_below(rests, whole, bound):
     """How many integers from 0 on, but less than the bound, fit; below 0 minus how many from the bound on."""
     rounds, left = divmod(bound, whole)
     return rounds * len(rests) + len([rest for rest in rests if rest < left])
+
+
+def lot_with(whole, is_good):
+    """The lot with this product that just those integers fit of which the function tells that they are good."""
+    blocks = [power for _, power in prime_powers(whole)]
+    masks = _good_masks(blocks, whole, is_good)
+    lot = {}
+    for at in range(len(blocks)):
+        lot[_modulus_around(at, blocks, masks)] = True
+    return tuple(sorted(lot))
+
+
+def _chosen(blocks, mask):
+    """The blocks whose bits are set in the mask."""
+    return [block for at, block in enumerate(blocks) if mask >> at & 1]
+
+
+def _good_masks(blocks, whole, is_good):
+    """The masks of blocks such that what leaves 1 by these blocks and 0 by the others is good."""
+    masks = []
+    for mask in range(1 << len(blocks)):
+        ones = product_of(_chosen(blocks, mask))
+        if is_good(number_leaving(ones, whole // ones)):
+            masks.append(mask)
+    return masks
+
+
+def _modulus_around(at, blocks, masks):
+    """The product of those blocks by which no good integer leaves something else than by this one."""
+    beside = -1
+    for mask in masks:
+        if mask >> at & 1:
+            beside &= mask
+    return product_of(_chosen(blocks, beside))

@@ -2,7 +2,7 @@
 
 from batchnumbers.basics import is_below, is_integer, is_tuple_of
 from batchnumbers.batches import is_batch_number, moduli
-from batchnumbers.changes import changes, command_changes, composed, idle_change, raised
+from batchnumbers.changes import changes, command_changes, in_turn, raised
 from batchnumbers.errors import InvalidQuestion, Refused
 from batchnumbers.rests import fits_lot
 
@@ -49,14 +49,13 @@ def script_change(machine, script):
 
 
 def _change_of_items(states, makers, script):
-    change = idle_change(states)
+    steps = []
     for item in script:
         if isinstance(item, tuple):
-            step = raised(_change_of_items(states, makers, item[1]), item[0])
+            steps.append(raised(_change_of_items(states, makers, item[1]), item[0]))
         else:
-            step = makers[item]
-        change = composed(change, step)
-    return change
+            steps.append(makers[item])
+    return in_turn(states, steps)
 
 
 def split_script(machine, script, path, at):
@@ -162,10 +161,7 @@ def flat_change(machine, value):
     if not _is_flat(machine, value):
         raise InvalidQuestion(1)
     makers = command_changes(machine)
-    change = idle_change(machine.states)
-    for command, count in value:
-        change = composed(change, raised(makers[command], count))
-    return change
+    return in_turn(machine.states, [raised(makers[command], count) for command, count in value])
 
 
 def _is_flat(machine, value):

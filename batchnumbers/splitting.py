@@ -10,7 +10,7 @@ def powers(machine, count):
     """The powers with this count of all changes of the machine."""
     group = changes(machine)
     check_integer(count, 1)
-    return tuple(_powers_of(group, count))
+    return tuple(powers_of(group, count))
 
 
 def go_along(machine, one, other):
@@ -19,8 +19,8 @@ def go_along(machine, one, other):
     check_integer(one, 1)
     check_integer(other, 2)
     # What changes places with some changes does so with all that are made of them.
-    first = few_makers(machine.states, _powers_of(group, one))
-    second = few_makers(machine.states, _powers_of(group, other))
+    first = few_makers(machine.states, powers_of(group, one))
+    second = few_makers(machine.states, powers_of(group, other))
     return all_commute(first, second)
 
 
@@ -34,20 +34,20 @@ def splits(machine, count, change):
     """The pairs of a power with the count and one with the count before that are the change, one after another."""
     group = _splitting_group(machine, count)
     checked_known(machine, group, change)
-    seconds = {power: True for power in _powers_of(group, count - 1)}
+    seconds = {power: True for power in powers_of(group, count - 1)}
     # The first ones differ, so the pairs ascend as they do.
-    pairs = [(first, composed(undone(first), change)) for first in _powers_of(group, count)]
+    pairs = [(first, composed(undone(first), change)) for first in powers_of(group, count)]
     return tuple([pair for pair in pairs if pair[1] in seconds])
 
 
 def shared(machine, count):
     """The changes that are powers both with the count and with the count before."""
     group = _splitting_group(machine, count)
-    seconds = {power: True for power in _powers_of(group, count - 1)}
-    return tuple([power for power in _powers_of(group, count) if power in seconds])
+    seconds = {power: True for power in powers_of(group, count - 1)}
+    return tuple([power for power in powers_of(group, count) if power in seconds])
 
 
-def _powers_of(group, count):
+def powers_of(group, count):
     """The powers of the group with this count, ascending."""
     return sorted(set([raised(change, count) for change in group]))
 

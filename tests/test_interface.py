@@ -39,6 +39,16 @@ INTERFACE = {
     "shelves": ["is_shelving(value)", "shelf_machine(shelving)"],
     "walks": ["walk_sum(shelving, shelf, jump, count)", "jump_fault(shelving, count)",
               "is_jump_fault(shelving, count, value)"],
+    "folding": ["shelf_moduli(shelving)", "folded(one, other)", "shelving_for(lot)", "against(counts, count)"],
+    "turned": ["is_turned_number(machine, count)", "splits_into(machine, arrangement, count)",
+               "split_fault(machine, arrangement, count)", "is_split_fault(machine, arrangement, count, value)"],
+    "along": ["may_move(machine, counts, arrangement)", "move_fault(machine, counts, arrangement)",
+              "is_move_fault(machine, counts, arrangement, value)", "least_along(machine, count)",
+              "least_together(machine)", "rounds(machine)"],
+    "patterns": ["tally(pattern)", "crossings(pattern)", "row_of(machine, pattern, rows)"],
+    "mild": ["gap(one, other)", "is_mild(machine)", "mild_fault(machine)", "is_mild_fault(machine, value)",
+             "crossing_number(machine)", "alike(machine, one, other)", "alike_fault(machine, one, other)",
+             "is_alike_fault(machine, one, other, value)", "batch_moduli(number)"],
 }
 
 

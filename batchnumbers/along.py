@@ -1,6 +1,6 @@
 """Powers that are moved past one another, and which counts have powers that go along."""
 
-from batchnumbers.basics import check_integer, check_integers, shared_part
+from batchnumbers.basics import check_integer, check_integers, least_divisor, shared_part
 from batchnumbers.batches import moduli, rounds_of
 from batchnumbers.changes import (all_commute, change_of_row, changes, common_order, commute, few_makers, first_unlike,
                                   in_turn, raised, rows_by_change)
@@ -93,14 +93,14 @@ def least_along(machine, count):
 def least_together(machine):
     """The least integer from 1 on whose powers all change places with one another."""
     group = changes(machine)
-    most = common_order(group)
     # Such integers are the multiples of the least one, and the common order is one of them.
-    for count in range(1, most):
-        if most % count == 0:
-            few = few_makers(machine.states, powers_of(group, count))
-            if all_commute(few, few):
-                return count
-    return most
+    return least_divisor(common_order(group), lambda count: _go_together(machine.states, powers_of(group, count)))
+
+
+def _go_together(states, group):
+    """Whether any two of the group change places."""
+    few = few_makers(states, group)
+    return all_commute(few, few)
 
 
 def rounds(machine):

@@ -43,6 +43,16 @@ def check_integers(value, at):
         raise InvalidQuestion(at)
 
 
+def read_number(word, figures):
+    """The number that a word stands for, -1 if it is none without leading zeros in at most so many figures."""
+    # Other signs than 0 to 9 count as digits, too, unless they are barred first.
+    if len(word) > figures or not word.isascii() or not word.isdigit():
+        return -1
+    if len(word) > 1 and word[0] == "0":
+        return -1
+    return int(word)
+
+
 def product_of(numbers):
     """The product of the numbers, 1 if there are none."""
     whole = 1
@@ -82,6 +92,15 @@ def prime_powers(number):
             found.append((prime, power))
         prime += 1
     return found
+
+
+def least_divisor(number, is_good):
+    """The least good divisor of a good number, where just the multiples of one integer are good."""
+    least = number
+    for prime, _ in prime_powers(number):
+        while least % prime == 0 and is_good(least // prime):
+            least //= prime
+    return least
 
 
 def shared_part(number, other):

@@ -77,18 +77,25 @@ def undone(change):
     return tuple(out)
 
 
+def round_from(change, start):
+    """The states through which the change leads round, from this one on."""
+    cycle = [start]
+    state = change[start]
+    while state != start:
+        cycle.append(state)
+        state = change[state]
+    return cycle
+
+
 def _cycles(change):
     """The lists of states through which the change leads round."""
     met = [False] * len(change)
     cycles = []
     for start in change:
-        cycle = []
-        state = start
-        while not met[state]:
-            met[state] = True
-            cycle.append(state)
-            state = change[state]
-        if cycle:
+        if not met[start]:
+            cycle = round_from(change, start)
+            for state in cycle:
+                met[state] = True
             cycles.append(cycle)
     return cycles
 

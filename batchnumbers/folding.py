@@ -2,7 +2,7 @@
 
 from math import gcd, lcm
 
-from batchnumbers.basics import number_leaving, prime_powers
+from batchnumbers.basics import least_divisor, number_leaving, prime_powers
 from batchnumbers.errors import Refused
 from batchnumbers.following import doubt
 from batchnumbers.rests import check_lot, lot_with
@@ -24,12 +24,9 @@ def _is_good(shelving, count):
 def _number_of(shelving):
     """The product of the moduli: the least count from 1 on that is good, as is the next one."""
     places, weights = shelving
-    most = places * len(weights)
-    # The product divides the places times the shelves.
-    for count in range(1, most):
-        if most % count == 0 and _is_good(shelving, count) and _is_good(shelving, count + 1):
-            return count
-    return most
+    # The product divides the places times the shelves, and its multiples are just such counts.
+    return least_divisor(places * len(weights),
+                         lambda count: _is_good(shelving, count) and _is_good(shelving, count + 1))
 
 
 def folded(one, other):

@@ -51,8 +51,16 @@ def residues(lot):
 
 def next_fitting(lot, count):
     """The least integer from the count on that fits."""
-    rests = residues(lot)
-    whole = product_of(lot)
+    return next_leaving(residues(lot), product_of(lot), count)
+
+
+def fitting_between(lot, low, high):
+    """How many integers from `low` on, but less than `high`, fit."""
+    return leaving_between(residues(lot), product_of(lot), low, high)
+
+
+def next_leaving(rests, whole, count):
+    """The least integer from the count on that leaves one of the ascending rests, 0 among them, by the whole."""
     start = count - count % whole
     for rest in rests:
         if start + rest >= count:
@@ -60,17 +68,15 @@ def next_fitting(lot, count):
     return start + whole
 
 
-def fitting_between(lot, low, high):
-    """How many integers from `low` on, but less than `high`, fit."""
-    rests = residues(lot)
+def leaving_between(rests, whole, low, high):
+    """How many integers from `low` on, but less than `high`, leave one of the rests by the whole."""
     if low >= high:
         return 0
-    whole = product_of(lot)
-    return _fitting_below(rests, whole, high) - _fitting_below(rests, whole, low)
+    return _leaving_below(rests, whole, high) - _leaving_below(rests, whole, low)
 
 
-def _fitting_below(rests, whole, bound):
-    """How many integers from 0 on, but less than the bound, fit; below 0 minus how many from the bound on."""
+def _leaving_below(rests, whole, bound):
+    """How many integers from 0 on, but less than the bound, do so; below 0 minus how many from the bound on."""
     rounds, left = divmod(bound, whole)
     return rounds * len(rests) + len([rest for rest in rests if rest < left])
 

@@ -1,7 +1,10 @@
 """Machines as texts."""
 
+from batchnumbers.basics import read_number
 from batchnumbers.errors import InvalidText
 from batchnumbers.machines import Machine, first_losing
+
+FIGURES = 2
 
 
 def machine_text(machine):
@@ -33,7 +36,7 @@ def _read_head(line):
     words = line.split(" ")
     if len(words) != 3 or words[0] != "machine":
         raise InvalidText(0)
-    commands, states = _number(words[1]), _number(words[2])
+    commands, states = read_number(words[1], FIGURES), read_number(words[2], FIGURES)
     if commands < 1 or states < 1:
         raise InvalidText(0)
     return commands, states
@@ -41,20 +44,10 @@ def _read_head(line):
 
 def _read_entry(line, at, commands, states):
     """The next states of the line with this index."""
-    entry = [_number(word) for word in line.split(" ")]
+    entry = [read_number(word, FIGURES) for word in line.split(" ")]
     if len(entry) != commands:
         raise InvalidText(at)
     for state in entry:
         if not 0 <= state < states:
             raise InvalidText(at)
     return entry
-
-
-def _number(word):
-    """The number that a word stands for, -1 if it is none in one or two figures."""
-    # Other signs than 0 to 9 count as digits, too, unless they are barred first.
-    if len(word) > 2 or not word.isascii() or not word.isdigit():
-        return -1
-    if len(word) == 2 and word[0] == "0":
-        return -1
-    return int(word)

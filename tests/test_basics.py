@@ -4,7 +4,8 @@ import math
 import unittest
 
 from batchnumbers.basics import (check_integer, check_integers, inverse, is_ascending, is_below, is_integer, is_sequence,
-                                 is_tuple_of, number_leaving, prime_powers, product_of, shared_part)
+                                 is_tuple_of, least_divisor, number_leaving, prime_powers, product_of,
+                                 read_number, shared_part)
 from tests.helpers import BIG, error_of, oddities
 
 
@@ -44,7 +45,24 @@ class KindsTest(unittest.TestCase):
             self.assertEqual(error_of(check_integers, [1, value], 0), ("InvalidQuestion", 0))
 
 
+class WordsTest(unittest.TestCase):
+
+    def test_numbers_in_words(self):
+        for figures in [1, 2, 9]:
+            for number in [0, 1, 9, 10, 99, 100, 123456789, 1234567890]:
+                told = number if len(str(number)) <= figures else -1
+                self.assertEqual(read_number(str(number), figures), told)
+        for word in ["", "00", "01", "-1", "-0", "+1", "1.", " 1", "1 ", "a", "1a", "\u0661", "\u00b2", "1\n", "1_0", "0x1"]:
+            self.assertEqual(read_number(word, 9), -1, word)
+
+
 class DivisorsTest(unittest.TestCase):
+
+    def test_least_divisor(self):
+        for number in range(1, 130):
+            for least in range(1, number + 1):
+                if number % least == 0:
+                    self.assertEqual(least_divisor(number, lambda count: count % least == 0), least)
 
     def test_shared_part(self):
         for number in range(1, 80):

@@ -49,6 +49,14 @@ INTERFACE = {
     "mild": ["gap(one, other)", "is_mild(machine)", "mild_fault(machine)", "is_mild_fault(machine, value)",
              "crossing_number(machine)", "alike(machine, one, other)", "alike_fault(machine, one, other)",
              "is_alike_fault(machine, one, other, value)", "batch_moduli(number)"],
+    "swaps": ["harmless_swaps(pattern, number)", "pattern_counts(zeros, ones, number)"],
+    "rooms": ["with_rows(machine, rows)", "is_room(machine, value)", "rooms(machine)", "room_machine(machine, room)"],
+    "views": ["is_view(machine, value)", "view_machine(machine, view)", "view_with(machine, pairs)",
+              "is_telling(machine, value)", "finest_view(machine, counts)"],
+    "sides": ["side_by_side(one, other)", "paired(one, other)", "in_step(one, other)"],
+    "couples": ["suits(one, other, count)", "couple_round(one, other)", "couple_rests(one, other)",
+                "next_suiting(one, other, count)", "suiting_between(one, other, low, high)"],
+    "starts": ["alike_states(one, other, count)", "start_round(one, other, state)", "start_rests(one, other, state)"],
 }
 
 

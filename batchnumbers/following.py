@@ -37,18 +37,18 @@ def doubt(counts, count):
     if _is_plain(count):
         return None
     if lot is None:
-        return _least_parting(count)
+        return least_parting([count])
     for modulus in lot:
         if count % modulus > 1:
             return modulus
     return None
 
 
-def _least_parting(count):
-    """The least integer from 3 on by which the count, neither 0 nor 1, leaves something else."""
-    # At the latest the size of the count and 2 more is one.
+def least_parting(counts):
+    """The least integer from 3 on by which all the counts, none of them 0 or 1, leave something else."""
+    # At the latest the greatest size of a count and 2 more is one.
     parting = 3
-    while count % parting < 2:
+    while any([count % parting < 2 for count in counts]):
         parting += 1
     return parting
 

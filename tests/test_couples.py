@@ -9,10 +9,12 @@ from batchnumbers.couples import couple_rests, couple_round, next_suiting, suiti
 from tests.helpers import BIG, error_of, oddities, of_cycles, then, times
 
 SEVEN = ((0, 3, 6, 2, 5, 7, 4, 1), (7, 6, 0, 3, 5, 1, 2, 4))
+# Its round is 12, its rests are 0, 1, 4 and 9; all orders divide 60, not any lesser number.
+TWELVE = ((0, 8, 1, 3, 4, 5, 7, 6, 2, 9, 11, 12, 13, 14, 10), (7, 3, 2, 8, 4, 5, 9, 0, 1, 6, 10, 11, 12, 13, 14))
 # Each change of four states beside one of each kind, and some with more states.
 COUPLES = [(one, other) for one in [(0, 1, 2, 3), (1, 0, 2, 3), (1, 0, 3, 2), (0, 2, 3, 1), (1, 2, 3, 0)]
            for other in permutations(range(4))]
-COUPLES += [SEVEN, SEVEN[::-1], ((0,), (0,)), ((1, 0), (1, 0)), ((1, 2, 0), (0, 2, 1)),
+COUPLES += [SEVEN, SEVEN[::-1], TWELVE, TWELVE[::-1], ((0,), (0,)), ((1, 0), (1, 0)), ((1, 2, 0), (0, 2, 1)),
             (of_cycles(5, (0, 1, 2, 3, 4)), of_cycles(5, (1, 2, 4, 3))), (of_cycles(5, (0, 1), (2, 3, 4)), (1, 0, 2, 3, 4)),
             (of_cycles(6, (0, 1, 2)), of_cycles(6, (2, 3, 4, 5))), (of_cycles(7, (0, 1), (2, 3)), of_cycles(7, (1, 2), (4, 5, 6)))]
 # The least common multiples of their orders: 420, 840, 2310 and 2730.

@@ -57,6 +57,18 @@ INTERFACE = {
     "couples": ["suits(one, other, count)", "couple_round(one, other)", "couple_rests(one, other)",
                 "next_suiting(one, other, count)", "suiting_between(one, other, low, high)"],
     "starts": ["alike_states(one, other, count)", "start_round(one, other, state)", "start_rests(one, other, state)"],
+    "coupled": ["couples_tell(machine, value)", "telling_couples(machine)"],
+    "tellings": ["is_possible(yes, no)", "possible_lot(yes, no)", "is_possible_lot(yes, no, value)",
+                 "possible_lots(yes, no)", "sureness(yes, no, count)"],
+    "questions": ["next_question(yes, no)", "learned(ask, bound)"],
+    "bench": ["Bench(machine)"],
+    "sheets": ["sheet_holds(value)", "sheet(name, question)", "wrong_sheets(values)"],
+    "desk": ["Desk()"],
+}
+METHODS = {
+    ("bench", "Bench"): ["__len__(self)", "script(self)", "effect(self)", "loose(self)", "flat(self)", "put(self, at, item)",
+                         "take(self, at)", "split(self, path, at)", "join(self, path)", "undo(self)", "within(self, work)"],
+    ("desk", "Desk"): ["say(self, command)"],
 }
 
 
@@ -78,6 +90,13 @@ class InterfaceTest(unittest.TestCase):
                 told = getattr(module, signature.partition("(")[0])
                 self.assertEqual(told.__name__ + str(inspect.signature(told)), signature)
                 self.assertEqual(told.__module__, module.__name__)
+
+    def test_each_method_is_defined_in_its_class_itself(self):
+        for (name, owner), signatures in METHODS.items():
+            told = getattr(import_module("batchnumbers." + name), owner)
+            for signature in signatures:
+                method = vars(told)[signature.partition("(")[0]]
+                self.assertEqual(method.__name__ + str(inspect.signature(method)), signature)
 
     def test_the_errors(self):
         module = import_module("batchnumbers.errors")

@@ -2,44 +2,33 @@
 
 from math import lcm
 
-from batchnumbers.basics import is_below, is_tuple_of
-from batchnumbers.changes import (change_of_row, changes, command_changes, common_order, commute_with_all, composed,
-                                  first_unlike, looped, raised, rows_by_change, split_looped)
+from batchnumbers.basics import is_below, is_tuple_of, least_divisor
+from batchnumbers.changes import (all_commute, change_of_row, commute_with_all, composed, first_unlike, led, looped,
+                                  raised, split_looped)
 from batchnumbers.machines import is_row
 from batchnumbers.rests import lot_with
-
-
-def first_fault(group, makers, count):
-    """A pair of a change of the group and the index of a maker whose loops the count does not split, None if none.
-
-    The group consists of all changes that are made of the makers.
-    """
-    powers_of = {change: raised(change, count) for change in group}
-    # If all loops that end with a maker are split, so are those that end with several makers.
-    for index, maker in enumerate(makers):
-        last = powers_of[maker]
-        for change in group:
-            if powers_of[composed(change, maker)] != composed(powers_of[change], last):
-                return change, index
-    return None
+from batchnumbers.tables import table_of
 
 
 def is_batch_number(machine, count):
     """Whether loops with this count may be split, whatever rows they do."""
-    return first_fault(changes(machine), command_changes(machine), count) is None
+    return table_of(machine).splits(count)
 
 
 def batch_fault(machine, count):
     """None for a batch number, otherwise two rows and a state from which loop and split loops end unlike."""
-    rows = rows_by_change(machine)
-    makers = command_changes(machine)
-    fault = first_fault(sorted(rows), makers, count)
+    return fault_in(table_of(machine), count)
+
+
+def fault_in(table, count):
+    """The same, for a machine with this table."""
+    fault = table.fault(count)
     if fault is None:
         return None
-    change, command = fault
-    together = looped(change, makers[command], count)
-    apart = split_looped(change, makers[command], count)
-    return rows[change], (command,), first_unlike(together, apart)
+    number, command = fault
+    first, second = table.changes[number], table.makers[command]
+    state = first_unlike(looped(first, second, count), split_looped(first, second, count))
+    return table.rows[number], (command,), state
 
 
 def is_batch_fault(machine, count, value):
@@ -50,7 +39,8 @@ def is_batch_fault(machine, count, value):
     if not is_row(machine, one) or not is_row(machine, other) or not is_below(state, machine.states):
         return False
     first, second = change_of_row(machine, one), change_of_row(machine, other)
-    return looped(first, second, count)[state] != split_looped(first, second, count)[state]
+    together = led(composed(first, second), state, count)
+    return together != led(second, led(first, state, count), count)
 
 
 def rounds_of(group, makers):
@@ -73,19 +63,19 @@ def _rounds_into(change, inner):
     return count
 
 
-def number_of(group, makers):
-    """The least count from 1 on that splits all loops of the group and whose powers lie in its middle."""
-    rounds = rounds_of(group, makers)
-    most = common_order(group)
-    # The powers with the common order are idle, so at the latest this count is one.
-    for count in range(rounds, most, rounds):
-        if most % count == 0 and first_fault(group, makers, count) is None:
-            return count
-    return most
+def number_of(table):
+    """The least count from 1 on that splits all loops of a table, as the next one does."""
+    if all_commute(table.makers, table.makers):
+        return 1
+    # Such counts are the multiples of the least one, and the common order is one of them.
+    return least_divisor(table.common_order(), lambda count: table.splits(count) and table.splits(count + 1))
+
+
+def moduli_of(table):
+    """The lot of moduli whose fitting integers are just the counts that split all loops of a table."""
+    return lot_with(number_of(table), lambda count: table.splits(count))
 
 
 def moduli(machine):
     """The lot of moduli whose fitting integers are just the batch numbers of the machine."""
-    group = changes(machine)
-    makers = command_changes(machine)
-    return lot_with(number_of(group, makers), lambda count: first_fault(group, makers, count) is None)
+    return moduli_of(table_of(machine))

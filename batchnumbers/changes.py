@@ -87,6 +87,12 @@ def round_from(change, start):
     return cycle
 
 
+def led(change, start, count):
+    """The state to which the power of the change with this count leads one state."""
+    cycle = round_from(change, start)
+    return cycle[count % len(cycle)]
+
+
 def _cycles(change):
     """The lists of states through which the change leads round."""
     met = [False] * len(change)
@@ -158,23 +164,38 @@ def split_looped(one, other, count):
     return composed(raised(one, count), raised(other, count))
 
 
-def reached(states, makers):
-    """The changes that are made of the makers, each with the first of its shortest rows of makers' indexes."""
-    start = idle_change(states)
-    rows = {start: ()}
-    found = [start]
+def numbered(states, makers):
+    """The changes that are made of the makers, numbered as they are found, the idle one first.
+
+    A dict of the numbers; for each maker the numbers of all changes followed by it; the first of the shortest rows
+    of makers' indexes for each number.
+    """
+    numbers = {idle_change(states): 0}
+    found = list(numbers)
+    rows = [()]
+    ahead = [[] for _ in makers]
     at = 0
     while at < len(found):
+        change = found[at]
         for index, maker in enumerate(makers):
-            change = composed(found[at], maker)
-            if change not in rows:
+            # Most of the work of the package is done in this place, so there is no call of `composed`.
+            to = tuple([maker[state] for state in change])
+            number = numbers.setdefault(to, len(found))
+            if number == len(found):
                 # There may be very many: stop at the first one too many.
-                if len(found) == MOST_CHANGES:
+                if number == MOST_CHANGES:
                     raise Refused(0)
-                rows[change] = rows[found[at]] + (index,)
-                found.append(change)
+                found.append(to)
+                rows.append(rows[at] + (index,))
+            ahead[index].append(number)
         at += 1
-    return rows
+    return numbers, ahead, rows
+
+
+def reached(states, makers):
+    """The changes that are made of the makers, each with the first of its shortest rows of makers' indexes."""
+    numbers, _, rows = numbered(states, makers)
+    return {change: row for change, row in zip(numbers, rows)}
 
 
 def grown(states, group):

@@ -1,13 +1,15 @@
 """Papers: what shows by a few counts that a lot of moduli is that of a machine."""
 
 from batchnumbers.basics import is_ascending, is_integer, is_tuple_of, number_leaving, prime_powers, product_of
-from batchnumbers.batches import batch_fault, is_batch_fault, moduli
+from batchnumbers.batches import fault_in, is_batch_fault, moduli_of
 from batchnumbers.rests import fits_lot, is_lot
+from batchnumbers.tables import table_of
 
 
 def court_paper(machine):
     """Some paper of the machine."""
-    lot = moduli(machine)
+    table = table_of(machine)
+    lot = moduli_of(table)
     whole = product_of(lot)
     counts = {}
     for prime, _ in prime_powers(whole):
@@ -15,23 +17,24 @@ def court_paper(machine):
     for modulus in lot:
         for one, other in _coprime_pairs(modulus):
             counts[number_leaving(one, other * (whole // modulus))] = True
-    return lot, tuple([(count,) + batch_fault(machine, count) for count in sorted(counts)])
+    return lot, tuple([(count,) + fault_in(table, count) for count in sorted(counts)])
 
 
 def is_court_paper(machine, value):
     """Whether a value is a paper of the machine."""
-    lot = moduli(machine)
+    table = table_of(machine)
     if not is_tuple_of(value, 2) or not is_lot(value[0]) or not isinstance(value[1], tuple):
         return False
+    lot, faults = value
+    for fault in faults:
+        if not is_tuple_of(fault, 4) or not is_integer(fault[0]):
+            return False
+        if not is_batch_fault(machine, fault[0], fault[1:]):
+            return False
     # Only the machine's own lot has papers, and for it the counts of (a) and (b) are batch numbers.
-    if value[0] != lot:
+    if not is_ascending(faults) or lot != moduli_of(table):
         return False
-    for entry in value[1]:
-        if not is_tuple_of(entry, 4) or not is_integer(entry[0]):
-            return False
-        if not is_batch_fault(machine, entry[0], entry[1:]):
-            return False
-    return is_ascending(value[1]) and _shows_all(lot, [entry[0] for entry in value[1]])
+    return _shows_all(lot, [fault[0] for fault in faults])
 
 
 def _shows_all(lot, counts):

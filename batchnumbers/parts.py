@@ -4,6 +4,7 @@ from batchnumbers.basics import is_ascending, is_sequence
 from batchnumbers.batches import number_of, rounds_of
 from batchnumbers.changes import all_commute, changes, commute_with_all, few_makers, grown, is_change, spanned
 from batchnumbers.errors import InvalidChange, InvalidQuestion
+from batchnumbers.tables import Table
 
 
 def is_part(machine, value):
@@ -81,7 +82,7 @@ def part_rounds(machine, part):
 def part_number(machine, part):
     """The least such count that splits all loops of the part's changes, besides."""
     _check_part(machine, _known(machine), part, 1)
-    return number_of(part, few_makers(machine.states, part))
+    return number_of(Table(machine.states, few_makers(machine.states, part)))
 
 
 def _known(machine):

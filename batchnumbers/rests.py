@@ -97,12 +97,14 @@ def _chosen(blocks, mask):
 
 
 def _good_masks(blocks, whole, is_good):
-    """The masks of blocks such that what leaves 1 by these blocks and 0 by the others is good."""
+    """The masks of some blocks, not of all, such that what leaves 1 by these blocks and 0 by the others is good."""
+    full = (1 << len(blocks)) - 1
     masks = []
-    for mask in range(1 << len(blocks)):
+    # With n, 1 - n fits, which leaves 0 and 1 the other way round: so half of the masks need not be looked at.
+    for mask in range(1, (full + 1) // 2):
         ones = product_of(_chosen(blocks, mask))
         if is_good(number_leaving(ones, whole // ones)):
-            masks.append(mask)
+            masks.extend([mask, full - mask])
     return masks
 
 

@@ -1,5 +1,7 @@
 """Machines to test with, and what is needed to look at them by brute force."""
 
+import sys
+
 from batchnumbers.errors import BatchError
 from batchnumbers.machines import Machine
 
@@ -89,6 +91,16 @@ SMALL = [TRIVIAL, STILL, PAIR, TURNS, SQUARE, TWO, RING4, RING6, KLEIN, CUBE8, Q
 LARGE = [EVEN5, SQUARE_NINE, SQUARE_TWENTY_ONE, THREES_FIVES, TURNS_FIVES]
 
 
+# Machines of 210 and 168 changes with moduli 10 and 21, 4 and 21, on which much may be done again and again.
+TEN_TWENTY_ONE = Machine(4, (
+    (10, 0, 5, 0), (1, 1, 1, 6), (2, 4, 2, 11), (3, 11, 3, 9), (4, 6, 4, 3), (8, 5, 0, 5),
+    (6, 2, 6, 2), (5, 7, 10, 7), (0, 8, 8, 8), (9, 3, 9, 1), (7, 10, 7, 10), (11, 9, 11, 4)))
+FOUR_TWENTY_ONE = Machine(4, (
+    (0, 12, 11, 0), (4, 1, 1, 1), (6, 2, 2, 10), (3, 11, 13, 3), (14, 4, 4, 14), (5, 7, 12, 5), (1, 6, 6, 2),
+    (7, 3, 0, 7), (2, 8, 8, 4), (9, 13, 7, 9), (8, 10, 10, 6), (11, 5, 9, 11), (12, 9, 3, 12), (13, 0, 5, 13),
+    (10, 14, 14, 8)))
+
+
 def then(one, other):
     """What does the first change, then the second, by the words of the document."""
     return tuple(other[state] for state in one)
@@ -130,3 +142,22 @@ def error_of(function, *arguments):
     except BatchError as error:
         return error.__class__.__name__, getattr(error, "at", None)
     return None
+
+
+def work_of(function, *arguments):
+    """How many lines are run in the call, each step of a comprehension counted: the same on each run, unlike times."""
+    lines = 0
+
+    def count_lines(frame, event, told):
+        nonlocal lines
+        if event == "line":
+            lines += 1
+        return count_lines
+
+    before = sys.gettrace()
+    sys.settrace(count_lines)
+    try:
+        error_of(function, *arguments)
+    finally:
+        sys.settrace(before)
+    return lines

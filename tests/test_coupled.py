@@ -9,9 +9,9 @@ from batchnumbers.changes import change_of, changes
 from batchnumbers.coupled import couples_tell, telling_couples
 from batchnumbers.couples import couple_round, suits
 from batchnumbers.machines import Machine
-from tests.helpers import (CUBE8, EIGHTS, EXACTLY_400, FIVES, HUGE, KLEIN, LARGE, OVER_400, PAIR, QUATERNION, RING6, SMALL,
-                           SQUARE, SQUARE_NINE, SQUARE_PAIR, STILL, THREES, TRIVIAL, TURNS, TWENTY, TWENTY_ONE, TWO, beside,
-                           error_of, oddities)
+from tests.helpers import (CUBE8, EIGHTS, EXACTLY_400, FIVES, FOUR_TWENTY_ONE, HUGE, KLEIN, LARGE, OVER_400, PAIR,
+                           QUATERNION, RING6, SMALL, SQUARE, SQUARE_NINE, SQUARE_PAIR, STILL, TEN_TWENTY_ONE, THREES, TRIVIAL,
+                           TURNS, TWENTY, TWENTY_ONE, TWO, beside, error_of, oddities, work_of)
 
 REFUSED = ("Refused", 0)
 ROWS = [(), (0,), (1,), (0, 1), (1, 0), (0, 0), (1, 1, 0)]
@@ -19,6 +19,12 @@ ROWS = [(), (0,), (1,), (0, 1), (1, 0), (0, 0), (1, 1, 0)]
 BOTH = [beside(TURNS, SQUARE), SQUARE_NINE, beside(FIVES, SQUARE), beside(QUATERNION, THREES)]
 # Here couples that are found one after another, each for a count that suits those before, are not all needed.
 MORE = [beside(TWENTY_ONE, TURNS), beside(TWENTY, EIGHTS)]
+# Here either of two couples so found can be left out, but not both; in the last one, both.
+EITHER = [
+    Machine(4, ((5, 5, 0, 6), (1, 4, 1, 1), (2, 7, 2, 2), (3, 2, 3, 7), (0, 6, 4, 5), (6, 1, 5, 4), (4, 0, 6, 0),
+                (7, 3, 7, 3))),
+    Machine(3, ((8, 4, 6), (4, 0, 1), (6, 2, 3), (0, 8, 4), (2, 1, 2), (5, 7, 9), (3, 3, 8), (7, 5, 5), (1, 6, 0), (9, 9, 7))),
+    Machine(2, ((1, 2), (4, 4), (3, 3), (0, 1), (2, 0)))]
 
 
 def is_row(machine, value):
@@ -88,7 +94,7 @@ class CouplesTellTest(unittest.TestCase):
 class TellingCouplesTest(unittest.TestCase):
 
     def test_they_tell_and_none_can_be_left_out(self):
-        for machine in SMALL + LARGE + BOTH + MORE + [EXACTLY_400]:
+        for machine in SMALL + LARGE + BOTH + MORE + EITHER + [EXACTLY_400, TEN_TWENTY_ONE, FOUR_TWENTY_ONE]:
             told = telling_couples(machine)
             self.assertIs(type(told), tuple)
             for couple in told:
@@ -113,6 +119,35 @@ class TellingCouplesTest(unittest.TestCase):
             couples = list(combinations([(command,) for command in range(machine.commands)], 2))
             self.assertFalse(any(couples_tell(machine, (couple,)) for couple in couples))
             self.assertIs(couples_tell(machine, tuple(couples)), True)
+
+
+class WorkTest(unittest.TestCase):
+
+    def test_a_machine_that_took_long(self):
+        self.assertEqual(moduli(TEN_TWENTY_ONE), (10, 21))
+        told = telling_couples(TEN_TWENTY_ONE)
+        self.assertTrue(tells(TEN_TWENTY_ONE, told))
+        self.assertIs(couples_tell(TEN_TWENTY_ONE, told), True)
+        for at in range(len(told)):
+            fewer = told[:at] + told[at + 1:]
+            self.assertFalse(tells(TEN_TWENTY_ONE, fewer))
+            self.assertIs(couples_tell(TEN_TWENTY_ONE, fewer), False)
+        # Other couples tell it as well.
+        some = (((2, 0, 0), (0,)), ((3, 3), (1,)), ((3, 1), (1,)))
+        for couples in [some, some[1:], some[:1] + some[2:], some[:2], told[:1] + some, some[::-1]]:
+            self.assertIs(couples_tell(TEN_TWENTY_ONE, couples), tells(TEN_TWENTY_ONE, couples))
+
+    def test_little_is_done(self):
+        # Where powers were made anew for each count, this took from half a million to a million and a half lines.
+        for machine in [TEN_TWENTY_ONE, FOUR_TWENTY_ONE]:
+            told = telling_couples(machine)
+            self.assertLess(work_of(telling_couples, machine), 100000)
+            for value in [told, told[1:], told[:-1], (), None, told + (None,), (((0, 1) * 500, (2, 3) * 500),) + told]:
+                self.assertLess(work_of(couples_tell, machine, value), 100000)
+            self.assertLess(work_of(couples_tell, machine, told * 500), 100000)
+        for machine in [OVER_400, HUGE]:
+            self.assertLess(work_of(telling_couples, machine), 100000)
+            self.assertLess(work_of(couples_tell, machine, (((0,), (1,)),)), 100000)
 
 
 class FactsTest(unittest.TestCase):

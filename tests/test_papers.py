@@ -8,8 +8,9 @@ from batchnumbers.changes import orders
 from batchnumbers.machines import Machine
 from batchnumbers.papers import court_paper, is_court_paper
 from batchnumbers.rests import fits, is_lot
-from tests.helpers import (BIG, EVEN5, EXACTLY_400, HUGE, LARGE, OVER_400, RING6, SMALL, SQUARE, SQUARE_NINE,
-                           SQUARE_TWENTY_ONE, TRIVIAL, TURNS, TWENTY, error_of, oddities)
+from tests.helpers import (BIG, EVEN5, EXACTLY_400, FOUR_TWENTY_ONE, HUGE, LARGE, OVER_400, RING6, SMALL, SQUARE,
+                           SQUARE_NINE, SQUARE_TWENTY_ONE, TEN_TWENTY_ONE, TRIVIAL, TURNS, TWENTY, error_of, oddities,
+                           work_of)
 
 REFUSED = ("Refused", 0)
 GOOD = ((6,), ((2, (0,), (1,), 0), (3, (0,), (1,), 0)))
@@ -56,7 +57,7 @@ class ExamplesTest(unittest.TestCase):
 class CourtPaperTest(unittest.TestCase):
 
     def test_what_is_told_is_a_paper(self):
-        for machine in SMALL + LARGE + [EXACTLY_400]:
+        for machine in SMALL + LARGE + [EXACTLY_400, TEN_TWENTY_ONE, FOUR_TWENTY_ONE]:
             paper = court_paper(machine)
             self.assertIs(type(paper), tuple)
             lot, faults = paper
@@ -153,3 +154,34 @@ class CourtPaperTest(unittest.TestCase):
         # A power of a prime cannot be parted, but some count must be a multiple of 4 / 2.
         self.assertIs(is_court_paper(SQUARE, with_faults(SQUARE, (4,), (2, 3))), True)
         self.assertIs(is_court_paper(SQUARE, with_faults(SQUARE, (4,), (3,))), False)
+
+
+class WorkTest(unittest.TestCase):
+
+    def test_a_machine_that_took_long(self):
+        lot, faults = court_paper(FOUR_TWENTY_ONE)
+        self.assertEqual(lot, (4, 21))
+        self.assertTrue(shows(FOUR_TWENTY_ONE, lot, [fault[0] for fault in faults]))
+        other = ((12, (3, 3), (0,), 1), (28, (3, 3), (0,), 1), (42, (1, 2), (1,), 0))
+        for some in [faults, other]:
+            self.assertIs(is_court_paper(FOUR_TWENTY_ONE, (lot, some)), True)
+            for at in range(len(some)):
+                fewer = some[:at] + some[at + 1:]
+                self.assertIs(is_court_paper(FOUR_TWENTY_ONE, (lot, fewer)),
+                              shows(FOUR_TWENTY_ONE, lot, [fault[0] for fault in fewer]))
+            for wrong in [(), (4,), (21,), (3, 4, 7), (12, 7), (7, 12), (84,), (3, 28), (4, 7), (8, 21), (4, 63)]:
+                self.assertIs(is_court_paper(FOUR_TWENTY_ONE, (wrong, some)), False)
+        for at in range(3):
+            self.assertIs(is_court_paper(FOUR_TWENTY_ONE, (lot, other[:at] + other[at + 1:])), False)
+
+    def test_little_is_done(self):
+        # Where powers were made anew for each count, this took from half a million to a million lines.
+        for machine in [FOUR_TWENTY_ONE, TEN_TWENTY_ONE]:
+            lot, faults = court_paper(machine)
+            self.assertLess(work_of(court_paper, machine), 100000)
+            for value in [(lot, faults), (lot, faults[1:]), (lot, faults[::-1]), (lot[1:], faults), ((42,), faults), None,
+                          ((10 ** 29 + 1, 10 ** 30), faults), (lot, faults + (None,)), (lot, ()), ((), ())]:
+                self.assertLess(work_of(is_court_paper, machine, value), 100000)
+        for machine in [OVER_400, HUGE]:
+            self.assertLess(work_of(court_paper, machine), 100000)
+            self.assertLess(work_of(is_court_paper, machine, GOOD), 100000)
